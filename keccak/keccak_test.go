@@ -11,6 +11,7 @@ import (
 
 	"quaestor/api"
 	"quaestor/keccak"
+	"quaestor/sample"
 	"quaestor/word"
 )
 
@@ -100,16 +101,6 @@ func byChapter(m []byte, pad byte) []byte {
 	return h
 }
 
-// noise is a message of n bytes without a rule, but always the same one.
-func noise(n int, seed uint64) []byte {
-	b := make([]byte, n)
-	for i := range b {
-		seed = seed*6364136223846793005 + 1442695040888963407
-		b[i] = byte(seed >> 56)
-	}
-	return b
-}
-
 // lengths are all up to four blocks, and some behind those.
 func lengths() []int {
 	var l []int
@@ -128,10 +119,21 @@ func check(t *testing.T, m []byte) {
 	}
 }
 
+// checkAll checks messages, no two of which may have the same hash.
+func checkAll(t *testing.T, messages [][]byte) {
+	t.Helper()
+	for _, m := range messages {
+		check(t, m)
+	}
+	if err := sample.Distinct(keccak.Sum, messages); err != nil {
+		t.Error(err)
+	}
+}
+
 // TestChapter shows that byChapter can be trusted: with the other byte it is the library's SHA3-256.
 func TestChapter(t *testing.T) {
 	for _, n := range lengths() {
-		m := noise(n, 1)
+		m := sample.Noise(n, 1)
 		want := sha3.Sum256(m)
 		if got := byChapter(m, 0x06); !bytes.Equal(got, want[:]) {
 			t.Fatalf("%d bytes: %x, not %x", n, got, want)
@@ -162,7 +164,7 @@ func TestKnown(t *testing.T) {
 
 func TestLengths(t *testing.T) {
 	for _, n := range lengths() {
-		check(t, noise(n, 2))
+		check(t, sample.Noise(n, 2))
 		check(t, make([]byte, n))
 		check(t, bytes.Repeat([]byte{0xff}, n))
 	}
@@ -171,66 +173,30 @@ func TestLengths(t *testing.T) {
 
 // TestBits sets each bit of a block alone, so that none is lost or goes to another one's place.
 func TestBits(t *testing.T) {
-	seen := map[api.Word]int{}
-	for i := range 8 * rate {
-		m := make([]byte, rate)
-		m[i/8] = 1 << (i % 8)
-		check(t, m)
-		h := keccak.Sum(m)
-		if j, ok := seen[h]; ok {
-			t.Fatalf("bits %d and %d", i, j)
-		}
-		seen[h] = i
-	}
+	checkAll(t, sample.Bits(rate))
 }
 
 // TestPadding holds messages against those that their padding could be taken for.
 func TestPadding(t *testing.T) {
-	seen := map[api.Word]int{}
-	for i, m := range [][]byte{
+	checkAll(t, [][]byte{
 		{},
 		{0x01},
 		{0x00},
-		noise(rate-1, 3),
-		append(noise(rate-1, 3), 0x81),
-		append(noise(rate-1, 3), 0x00),
-		noise(rate-2, 3),
-		append(noise(rate-2, 3), 0x01),
-		append(noise(rate-2, 3), 0x01, 0x80),
-		noise(rate, 3),
-		append(noise(rate, 3), 0x01),
-		append(append(noise(rate, 3), 0x01), make([]byte, rate-1)...),
-	} {
-		check(t, m)
-		if j, ok := seen[keccak.Sum(m)]; ok {
-			t.Errorf("messages %d and %d", i, j)
-		}
-		seen[keccak.Sum(m)] = i
-	}
+		sample.Noise(rate-1, 3),
+		append(sample.Noise(rate-1, 3), 0x81),
+		append(sample.Noise(rate-1, 3), 0x00),
+		sample.Noise(rate-2, 3),
+		append(sample.Noise(rate-2, 3), 0x01),
+		append(sample.Noise(rate-2, 3), 0x01, 0x80),
+		sample.Noise(rate, 3),
+		append(sample.Noise(rate, 3), 0x01),
+		append(append(sample.Noise(rate, 3), 0x01), make([]byte, rate-1)...),
+	})
 }
 
 func TestSumArgument(t *testing.T) {
-	if keccak.Sum(nil) != keccak.Sum([]byte{}) {
-		t.Error("no bytes, and none")
-	}
-	m := noise(3*rate, 4)
-	kept := bytes.Clone(m)
-	for n := range len(m) {
-		if keccak.Sum(m[:n]) != keccak.Sum(bytes.Clone(m[:n])) {
-			t.Fatalf("%d bytes: what stands behind them counts", n)
-		}
-		if !bytes.Equal(m, kept) {
-			t.Fatalf("%d bytes: the argument was changed", n)
-		}
-	}
-	before := keccak.Sum(m)
-	m[0] ^= 1
-	if keccak.Sum(m) == before {
-		t.Error("an argument that was changed has the same hash")
-	}
-	m[0] ^= 1
-	if keccak.Sum(m) != before {
-		t.Error("something was kept")
+	if err := sample.TakesOnly(keccak.Sum, sample.Noise(3*rate, 4)); err != nil {
+		t.Error(err)
 	}
 }
 
@@ -242,7 +208,7 @@ func TestJoin(t *testing.T) {
 		var l []api.Word
 		var m []byte
 		for i := range n {
-			b := noise(32, uint64(100*n+i))
+			b := sample.Noise(32, uint64(100*n+i))
 			l = append(l, word.Read(b))
 			m = append(m, b...)
 		}
@@ -286,7 +252,7 @@ func TestJoinArgument(t *testing.T) {
 
 func BenchmarkSum(b *testing.B) {
 	for _, n := range []int{64, 1 << 16} {
-		m := noise(n, 5)
+		m := sample.Noise(n, 5)
 		b.Run(strconv.Itoa(n), func(b *testing.B) {
 			for b.Loop() {
 				keccak.Sum(m)
