@@ -73,25 +73,20 @@ func checkAny(t *testing.T, b []byte) bool {
 	return true
 }
 
-// dice draws numbers without a rule, but for each start always the same ones.
-type dice uint64
-
-func (d *dice) below(n int) int {
-	*d = *d*6364136223846793005 + 1442695040888963407
-	return int(uint64(*d) >> 33 % uint64(n))
-}
+// dice draws items, too.
+type dice struct{ sample.Dice }
 
 // item draws an item of at most so many levels.
 func (d *dice) item(levels int) api.Item {
-	if levels > 1 && d.below(3) > 0 {
+	if levels > 1 && d.Below(3) > 0 {
 		var kids []api.Item
-		for range d.below(5) {
+		for range d.Below(5) {
 			kids = append(kids, d.item(levels-1))
 		}
 		return of(kids...)
 	}
-	n := []int{0, 1, 1, 2, 20, 32, 54, 55, 56, 57, 255, 256, 300}[d.below(13)]
-	return api.Item{Bytes: sample.Noise(n, uint64(d.below(1<<30)))}
+	n := []int{0, 1, 1, 2, 20, 32, 54, 55, 56, 57, 255, 256, 300}[d.Below(13)]
+	return api.Item{Bytes: sample.Noise(n, uint64(d.Below(1<<30)))}
 }
 
 func TestWrong(t *testing.T) {
@@ -177,7 +172,7 @@ func TestShort(t *testing.T) {
 
 // TestRound draws items, and what comes out of their bytes if some are cut off, put behind, or changed.
 func TestRound(t *testing.T) {
-	d := dice(1)
+	d := dice{1}
 	for range 1500 {
 		x := d.item(6)
 		b := rlp.Encode(x)
@@ -191,10 +186,10 @@ func TestRound(t *testing.T) {
 			checkFails(t, b[:n])
 			checkFails(t, b[:len(b)-1-n])
 		}
-		checkFails(t, append(bytes.Clone(b), byte(d.below(256))))
+		checkFails(t, append(bytes.Clone(b), byte(d.Below(256))))
 		for range 100 {
 			other := bytes.Clone(b)
-			other[d.below(min(len(b), 80))] = byte(d.below(256))
+			other[d.Below(min(len(b), 80))] = byte(d.Below(256))
 			checkAny(t, other)
 		}
 	}
@@ -202,12 +197,12 @@ func TestRound(t *testing.T) {
 
 // TestNoise draws bytes most of which are heads.
 func TestNoise(t *testing.T) {
-	d := dice(2)
+	d := dice{2}
 	items := 0
 	for range 300000 {
-		b := make([]byte, 1+d.below(12))
+		b := make([]byte, 1+d.Below(12))
 		for i := range b {
-			b[i] = []byte{0, 1, 0x7f, 0x80, 0x81, 0x82, 0xb8, 0xc0, 0xc1, 0xc2, 0xc3, 0xc4, 0xc5, 0xc6, 0xf8}[d.below(15)]
+			b[i] = []byte{0, 1, 0x7f, 0x80, 0x81, 0x82, 0xb8, 0xc0, 0xc1, 0xc2, 0xc3, 0xc4, 0xc5, 0xc6, 0xf8}[d.Below(15)]
 		}
 		if checkAny(t, b) {
 			items++

@@ -29,7 +29,7 @@ func clone(x api.Item) api.Item {
 }
 
 func TestEncodeArgument(t *testing.T) {
-	d := dice(3)
+	d := dice{3}
 	for range 200 {
 		x := d.item(4)
 		kept := clone(x)
@@ -67,7 +67,7 @@ func TestEncodeBehind(t *testing.T) {
 }
 
 func TestDecodeArgument(t *testing.T) {
-	d := dice(4)
+	d := dice{4}
 	for range 200 {
 		want := d.item(4)
 		m := append(rlp.Encode(want), 0x80, 0xc0, 0x05)

@@ -68,3 +68,12 @@ func Distinct(hash func([]byte) api.Word, messages [][]byte) error {
 	}
 	return nil
 }
+
+// Dice draws numbers without a rule, but for each start always the same ones.
+type Dice uint64
+
+// Below is a number below n, from 0 on.
+func (d *Dice) Below(n int) int {
+	*d = *d*6364136223846793005 + 1442695040888963407
+	return int(uint64(*d) >> 33 % uint64(n))
+}
