@@ -37,8 +37,7 @@ func numbers() []uint64 {
 	}
 	d := sample.Dice(1)
 	for range 5000 {
-		n := uint64(d.Below(1<<31))<<33 | uint64(d.Below(1<<31))<<2 | uint64(d.Below(4))
-		l = append(l, n>>d.Below(64))
+		l = append(l, d.Number()>>d.Below(64))
 	}
 	return l
 }

@@ -5,6 +5,7 @@ import (
 	"testing"
 
 	"quaestor/api"
+	"quaestor/sample"
 	"quaestor/word"
 )
 
@@ -19,10 +20,10 @@ func counts() []api.Word {
 
 // some are words to be shifted.
 func some() []api.Word {
-	s := source(5)
-	l := edges()
+	d := sample.Dice(5)
+	l := sample.Edges()
 	for range 200 {
-		l = append(l, s.word())
+		l = append(l, d.Word())
 	}
 	return l
 }

@@ -5,6 +5,7 @@ import (
 	"testing"
 
 	"quaestor/api"
+	"quaestor/sample"
 	"quaestor/word"
 )
 
@@ -101,12 +102,13 @@ func modular(t *testing.T, a, b, m api.Word) {
 }
 
 func TestModular(t *testing.T) {
-	s, l := source(3), edges()
-	pick := func() api.Word { return l[s.part()%uint64(len(l))] }
+	d, l := sample.Dice(3), sample.Edges()
+	pick := func() api.Word { return l[d.Below(len(l))] }
+	few := func() uint64 { return uint64(d.Below(3)) }
 	for range 100000 {
 		modular(t, pick(), pick(), pick())
-		modular(t, s.word(), s.word(), s.word())
-		modular(t, minus(s.part()%3), minus(s.part()%3), s.word())
+		modular(t, d.Word(), d.Word(), d.Word())
+		modular(t, minus(few()), minus(few()), d.Word())
 	}
 	for _, a := range l {
 		modular(t, a, minus(1), api.Word{})
@@ -121,7 +123,7 @@ func TestModular(t *testing.T) {
 }
 
 func TestExp(t *testing.T) {
-	s := source(4)
+	d := sample.Dice(4)
 	check := func(a, e api.Word) {
 		t.Helper()
 		same(t, "Exp", word.Exp(a, e), new(big.Int).Exp(value(a), value(e), modulus), a, e)
@@ -133,7 +135,7 @@ func TestExp(t *testing.T) {
 		}
 	}
 	for range 1000 {
-		check(s.word(), s.word())
+		check(d.Word(), d.Word())
 	}
 	if word.Exp(api.Word{}, api.Word{}) != (api.Word{1}) {
 		t.Error("0 to the power of 0")

@@ -6,6 +6,7 @@ import (
 	"testing"
 
 	"quaestor/api"
+	"quaestor/sample"
 	"quaestor/word"
 )
 
@@ -61,46 +62,9 @@ func toWord(v *big.Int) api.Word {
 
 func minus(n uint64) api.Word { return api.Word{-n, most, most, most} }
 
-// edges are the words whose parts are all at some edge.
-func edges() []api.Word {
-	parts := []uint64{0, 1, 1<<63 - 1, 1 << 63, most}
-	var l []api.Word
-	for i := range 5 * 5 * 5 * 5 {
-		l = append(l, api.Word{parts[i%5], parts[i/5%5], parts[i/25%5], parts[i/125]})
-	}
-	return l
-}
-
-// source gives numbers without a rule, but always the same ones.
-type source uint64
-
-func (s *source) part() uint64 {
-	*s += 0x9e3779b97f4a7c15
-	z := uint64(*s)
-	z = (z ^ z>>30) * 0xbf58476d1ce4e5b9
-	z = (z ^ z>>27) * 0x94d049bb133111eb
-	return z ^ z>>31
-}
-
-// word is one of 1 to 256 bits, with long runs of equal bits now and then.
-func (s *source) word() api.Word {
-	a := api.Word{s.part(), s.part(), s.part(), s.part()}
-	for i := range a {
-		switch s.part() % 6 {
-		case 0:
-			a[i] = 0
-		case 1:
-			a[i] = most
-		case 2:
-			a[i] = 1 << (s.part() % 64)
-		}
-	}
-	return toWord(new(big.Int).Rsh(value(a), uint(s.part()%256)))
-}
-
 // pairs are pairs of words: many at the edges, and many without a rule.
 func pairs(yield func(a, b api.Word) bool) {
-	l := edges()
+	l := sample.Edges()
 	for _, a := range l {
 		for _, b := range l {
 			if !yield(a, b) {
@@ -108,9 +72,9 @@ func pairs(yield func(a, b api.Word) bool) {
 			}
 		}
 	}
-	s := source(1)
+	d := sample.Dice(1)
 	for range 100000 {
-		if !yield(s.word(), s.word()) {
+		if !yield(d.Word(), d.Word()) {
 			return
 		}
 	}
@@ -172,10 +136,10 @@ func TestRead(t *testing.T) {
 }
 
 func TestRoundTrips(t *testing.T) {
-	s := source(2)
-	l := edges()
+	d := sample.Dice(2)
+	l := sample.Edges()
 	for range 2000 {
-		l = append(l, s.word())
+		l = append(l, d.Word())
 	}
 	for _, a := range l {
 		b := word.Bytes(a)
