@@ -245,24 +245,7 @@ func (m model) covers() bool {
 	return m.of(desk.Self()).balance.Cmp(sum) >= 0
 }
 
-func equalWorlds(v, w *store.World) bool {
-	x, y := v.Entries(), w.Entries()
-	if len(x) != len(y) {
-		return false
-	}
-	for i := range x {
-		a, b := x[i].Account, y[i].Account
-		if x[i].Addr != y[i].Addr || a.Nonce != b.Nonce || a.Balance != b.Balance || !bytes.Equal(a.Code, b.Code) || len(a.Slots) != len(b.Slots) {
-			return false
-		}
-		for j := range a.Slots {
-			if a.Slots[j] != b.Slots[j] {
-				return false
-			}
-		}
-	}
-	return true
-}
+func equalWorlds(v, w *store.World) bool { return sample.SameEntries(v.Entries(), w.Entries()) }
 
 // drawnInput is one that asks for something, or nearly.
 func drawnInput(d *sample.Dice) []byte {

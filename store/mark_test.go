@@ -4,6 +4,7 @@ import (
 	"testing"
 
 	"quaestor/api"
+	"quaestor/sample"
 	"quaestor/store"
 )
 
@@ -118,7 +119,7 @@ func TestNoMark(t *testing.T) {
 				w.Back(m)
 			}
 		}
-		if !sameEntries(w.Entries(), before) || w.Refunds() == 0 || len(w.Logs()) == 0 || !w.Touch(a) {
+		if !sample.SameEntries(w.Entries(), before) || w.Refunds() == 0 || len(w.Logs()) == 0 || !w.Touch(a) {
 			t.Error("it went back")
 		}
 	}

@@ -47,12 +47,12 @@ func TestNewArgument(t *testing.T) {
 		w.SetCode(e.Addr, []byte{1})
 		w.SetSlot(e.Addr, api.Word{}, api.Word{1})
 	}
-	if !sameEntries(l, given()) {
+	if !sample.SameEntries(l, given()) {
 		t.Error("the argument was changed")
 	}
 	w = store.New(l)
 	spoil(l)
-	if !sameEntries(w.Entries(), given()) {
+	if !sample.SameEntries(w.Entries(), given()) {
 		t.Error("the argument was kept")
 	}
 }
@@ -61,7 +61,7 @@ func TestNewArgument(t *testing.T) {
 func TestNewBehind(t *testing.T) {
 	all := given()
 	for n := range len(all) + 1 {
-		if got := store.New(all[:n]).Entries(); !sameEntries(got, given()[:n]) {
+		if got := store.New(all[:n]).Entries(); !sample.SameEntries(got, given()[:n]) {
 			t.Errorf("%d entries: %v", n, got)
 		}
 	}
@@ -74,7 +74,7 @@ func TestNewBehind(t *testing.T) {
 			}
 		}
 	}
-	if !sameEntries(all, given()) {
+	if !sample.SameEntries(all, given()) {
 		t.Error("the argument was changed")
 	}
 }
@@ -83,12 +83,12 @@ func TestEntriesFresh(t *testing.T) {
 	w := store.New(given())
 	kept := w.Entries()
 	spoil(w.Entries())
-	if !sameEntries(w.Entries(), given()) || !sameEntries(kept, given()) {
+	if !sample.SameEntries(w.Entries(), given()) || !sample.SameEntries(kept, given()) {
 		t.Error("the answers share their memory")
 	}
 	for i := range kept {
 		spoil(kept[i : i+1 : i+1])
-		if !sameEntries(kept[i+1:], given()[i+1:]) {
+		if !sample.SameEntries(kept[i+1:], given()[i+1:]) {
 			t.Errorf("entry %d shares memory with one behind it", i)
 		}
 	}
@@ -139,26 +139,26 @@ func TestLogArgument(t *testing.T) {
 	w.Log(api.Log{Addr: x.Addr, Topics: x.Topics[:1], Data: x.Data[:4]})
 	w.Log(x)
 	w.Log(x)
-	if !sameLogs([]api.Log{x}, []api.Log{told()}) {
+	if !sample.SameLogs([]api.Log{x}, []api.Log{told()}) {
 		t.Error("the argument was changed")
 	}
 	spoilLogs([]api.Log{x})
 	want := []api.Log{{Addr: api.Address{3}, Topics: []api.Word{{1}}, Data: []byte("some")}, told(), told()}
-	if !sameLogs(w.Logs(), want) {
+	if !sample.SameLogs(w.Logs(), want) {
 		t.Errorf("the argument was kept: %v", w.Logs())
 	}
 	kept, c := w.Logs(), w.Copy()
 	spoilLogs(w.Logs())
-	if !sameLogs(w.Logs(), want) || !sameLogs(kept, want) {
+	if !sample.SameLogs(w.Logs(), want) || !sample.SameLogs(kept, want) {
 		t.Error("the answers share their memory")
 	}
 	spoilLogs(c.Logs())
-	if !sameLogs(c.Logs(), want) {
+	if !sample.SameLogs(c.Logs(), want) {
 		t.Error("the Copy's answers share their memory")
 	}
 	for i := range kept {
 		spoilLogs(kept[i : i+1 : i+1])
-		if !sameLogs(kept[i+1:], want[i+1:]) {
+		if !sample.SameLogs(kept[i+1:], want[i+1:]) {
 			t.Errorf("log %d shares memory with one behind it", i)
 		}
 	}
@@ -206,7 +206,7 @@ func look(w *store.World) seen {
 }
 
 func (s seen) same(o seen) bool {
-	return sameEntries(s.entries, o.entries) && sameEntries(s.ended, o.ended) && sameLogs(s.logs, o.logs) &&
+	return sample.SameEntries(s.entries, o.entries) && sample.SameEntries(s.ended, o.ended) && sample.SameLogs(s.logs, o.logs) &&
 		s.refunds == o.refunds && slices.Equal(s.touched, o.touched) && slices.Equal(s.originals, o.originals)
 }
 

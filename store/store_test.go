@@ -53,14 +53,6 @@ func words() []api.Word {
 	return []api.Word{{}, {1}, {2}, {1 << 63}, {0, 1}, {0, 0, 1}, {0, 0, 0, 1}, {0, 0, 0, 1 << 63}, {1, 1}, high()}
 }
 
-// sameEntries says whether accounts are the same; nil lists and empty ones are.
-func sameEntries(l, k []api.Entry) bool {
-	return slices.EqualFunc(l, k, func(x, y api.Entry) bool {
-		a, b := x.Account, y.Account
-		return x.Addr == y.Addr && a.Nonce == b.Nonce && a.Balance == b.Balance && bytes.Equal(a.Code, b.Code) && slices.Equal(a.Slots, b.Slots)
-	})
-}
-
 func TestExample(t *testing.T) {
 	a, b := api.Address{0xaa}, api.Address{0xbb}
 	w := store.New([]api.Entry{{Addr: a, Account: api.Account{Balance: api.Word{5}}}})
@@ -146,7 +138,7 @@ func TestNewTwice(t *testing.T) {
 		{Addr: b},
 	})
 	want := []api.Entry{{Addr: a, Account: api.Account{Balance: api.Word{7}, Slots: []api.Slot{{Key: api.Word{3}, Value: api.Word{10}}, {Key: api.Word{5}, Value: api.Word{11}}}}}}
-	if got := w.Entries(); !sameEntries(got, want) {
+	if got := w.Entries(); !sample.SameEntries(got, want) {
 		t.Errorf("%v", got)
 	}
 	if w.Nonce(a) != 0 || len(w.Code(a)) != 0 || w.Slot(a, api.Word{1}) != (api.Word{}) || w.There(b) {
@@ -184,7 +176,7 @@ func TestEntries(t *testing.T) {
 	}
 	w := store.New(given)
 	for range 5 {
-		if !sameEntries(w.Entries(), want) || !sameEntries(w.Copy().Entries(), want) || !sameEntries(store.New(w.Entries()).Entries(), want) {
+		if !sample.SameEntries(w.Entries(), want) || !sample.SameEntries(w.Copy().Entries(), want) || !sample.SameEntries(store.New(w.Entries()).Entries(), want) {
 			t.Fatal("not the same entries")
 		}
 	}
@@ -208,7 +200,7 @@ func TestEntriesKinds(t *testing.T) {
 		{Addr: b, Account: api.Account{Balance: api.Word{2}}},
 		{Addr: a, Account: api.Account{Nonce: 1}},
 	}
-	if got := w.Entries(); !sameEntries(got, want) {
+	if got := w.Entries(); !sample.SameEntries(got, want) {
 		t.Errorf("%v", got)
 	}
 }

@@ -2,19 +2,12 @@ package store_test
 
 import (
 	"math"
-	"slices"
 	"testing"
 
 	"quaestor/api"
+	"quaestor/sample"
 	"quaestor/store"
 )
-
-// sameLogs says whether logs are the same; nil lists and empty ones are.
-func sameLogs(l, k []api.Log) bool {
-	return slices.EqualFunc(l, k, func(x, y api.Log) bool {
-		return x.Addr == y.Addr && slices.Equal(x.Topics, y.Topics) && slices.Equal(x.Data, y.Data)
-	})
-}
 
 func TestTouch(t *testing.T) {
 	w := store.New([]api.Entry{{Addr: api.Address{1}, Account: api.Account{Nonce: 1}}})
@@ -105,12 +98,12 @@ func TestBegin(t *testing.T) {
 		t.Error("a Mark is left")
 	}
 	w.End()
-	if !sameEntries(w.Entries(), before) {
+	if !sample.SameEntries(w.Entries(), before) {
 		t.Error("the account is still dead")
 	}
 	w.Begin()
 	w.Begin()
-	if !sameEntries(w.Entries(), before) {
+	if !sample.SameEntries(w.Entries(), before) {
 		t.Error("the accounts are changed")
 	}
 }
@@ -139,7 +132,7 @@ func TestEnd(t *testing.T) {
 			t.Errorf("slot %x is left", key)
 		}
 	}
-	if !sameEntries(w.Entries(), []api.Entry{kept}) {
+	if !sample.SameEntries(w.Entries(), []api.Entry{kept}) {
 		t.Errorf("%v", w.Entries())
 	}
 	w.Back(m)
@@ -231,7 +224,7 @@ func TestLogs(t *testing.T) {
 		x := api.Log{Addr: api.Address{byte(i % 3)}, Topics: words()[:i%5], Data: make([]byte, 40*i)}
 		w.Log(x)
 		want = append(want, x)
-		if !sameLogs(w.Logs(), want) || !sameLogs(w.Copy().Logs(), want) {
+		if !sample.SameLogs(w.Logs(), want) || !sample.SameLogs(w.Copy().Logs(), want) {
 			t.Fatalf("%d logs: %v", len(want), w.Logs())
 		}
 	}
@@ -242,11 +235,11 @@ func TestLogs(t *testing.T) {
 		t.Errorf("%v", l)
 	}
 	w.Back(m)
-	if !sameLogs(w.Logs(), want) {
+	if !sample.SameLogs(w.Logs(), want) {
 		t.Errorf("behind Back: %v", w.Logs())
 	}
 	w.Log(want[0])
-	if !sameLogs(w.Logs(), append(want, want[0])) {
+	if !sample.SameLogs(w.Logs(), append(want, want[0])) {
 		t.Errorf("and another one: %v", w.Logs())
 	}
 }

@@ -51,17 +51,3 @@ func clone(l []api.Event) []api.Event {
 	}
 	return c
 }
-
-// same says whether events are.
-func same(l, m []api.Event) bool {
-	if len(l) != len(m) {
-		return false
-	}
-	for i, e := range l {
-		f := m[i]
-		if string(e.Data) != string(f.Data) || e.Op != f.Op || e.Depth != f.Depth || e.Self != f.Self || e.Arg != f.Arg || e.Value != f.Value || e.Fault != f.Fault {
-			return false
-		}
-	}
-	return true
-}

@@ -149,7 +149,7 @@ func TestArguments(t *testing.T) {
 		head := slices.Clip(clone(l[:n]))
 		a, slot := at(uint64(d.Below(3))), l[d.Below(len(l))].Value
 		belongs, loose, starved, foot := trace.Belongs(l[:n], a, slot), trace.Loose(l[:n]), trace.Starved(l[:n]), trace.Steps(l[:n])
-		if !same(l, kept) {
+		if !sample.SameEvents(l, kept) {
 			t.Fatal("an argument was changed")
 		}
 		for _, e := range l {

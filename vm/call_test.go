@@ -6,6 +6,7 @@ import (
 	"testing"
 
 	"quaestor/api"
+	"quaestor/sample"
 	"quaestor/store"
 	"quaestor/vm"
 	"quaestor/word"
@@ -220,7 +221,7 @@ func TestFunds(t *testing.T) {
 			r, l := vm.Call(w, block(), caller, m)
 			if may := value == (api.Word{value[0]}) && value[0] <= 100; may != (r.Status == api.DoneOK) {
 				t.Errorf("%v: %v", m, r)
-			} else if !may && (!sameResult(r, api.Result{Status: api.DoneFault, Fault: api.ErrVMFunds, Gas: 90000}) || len(l) > 0 || !sameEntries(before, w.Entries())) {
+			} else if !may && (!sameResult(r, api.Result{Status: api.DoneFault, Fault: api.ErrVMFunds, Gas: 90000}) || len(l) > 0 || !sample.SameEntries(before, w.Entries())) {
 				t.Errorf("%v: %v, %v, %v", m, r, l, w.Entries())
 			}
 		}
@@ -251,7 +252,7 @@ func TestTaken(t *testing.T) {
 			v.SetSlot(me, api.Word{5}, api.Word{3})
 			v.SetSlot(me, api.Word{6}, api.Word{4})
 			logs := []api.Log{{Addr: me, Topics: []api.Word{{2}}}, {Addr: me, Topics: []api.Word{{3}}}}
-			if r.Status != api.DoneOK || !sameEntries(w.Entries(), v.Entries()) || !sameLogs(w.Logs(), logs) || w.Refunds() != 0 {
+			if r.Status != api.DoneOK || !sample.SameEntries(w.Entries(), v.Entries()) || !sample.SameLogs(w.Logs(), logs) || w.Refunds() != 0 {
 				t.Errorf("%s that ends with %s: %v, %v, %v, %d", kind, end, r, w.Entries(), w.Logs(), w.Refunds())
 			}
 			if w.Touch(at(0x56)) || w.Touch(at(0x57)) || w.TouchSlot(at(0x77), api.Word{9}) || w.TouchSlot(me, api.Word{9}) || !w.Touch(at(0x77)) || !w.TouchSlot(me, api.Word{5}) {
@@ -266,7 +267,7 @@ func TestTaken(t *testing.T) {
 		w.Refund(7)
 		before := w.Entries()
 		r, _ := vm.Call(w, block(), caller, m)
-		if r.Status == api.DoneOK || !sameEntries(w.Entries(), before) || len(w.Logs()) != 1 || w.Refunds() != 7 || w.Touch(at(0x57)) {
+		if r.Status == api.DoneOK || !sample.SameEntries(w.Entries(), before) || len(w.Logs()) != 1 || w.Refunds() != 7 || w.Touch(at(0x57)) {
 			t.Errorf("%s: %v, %v", end, r, w.Entries())
 		}
 	}
@@ -356,7 +357,7 @@ func TestDestroy(t *testing.T) {
 			t.Errorf("%s: %v", x.heir, l)
 		}
 		w.End()
-		if !sameEntries(w.Entries(), []api.Entry{{Addr: at(0x55), Account: api.Account{Balance: word.From(x.their)}}}) {
+		if !sample.SameEntries(w.Entries(), []api.Entry{{Addr: at(0x55), Account: api.Account{Balance: word.From(x.their)}}}) {
 			t.Errorf("%s: %v", x.heir, w.Entries())
 		}
 	}
@@ -364,7 +365,7 @@ func TestDestroy(t *testing.T) {
 	_, _, w := run(calling("DELEGATECALL", "0x77", "", "GAS", 0, 0, 0, 0), enough, rich, entry(at(0x77), 3, "0x55 SELFDESTRUCT"))
 	w.End()
 	want := store.New([]api.Entry{entry(at(0x77), 3, "0x55 SELFDESTRUCT"), {Addr: at(0x55), Account: api.Account{Balance: api.Word{109}}}})
-	if !sameEntries(w.Entries(), want.Entries()) {
+	if !sample.SameEntries(w.Entries(), want.Entries()) {
 		t.Errorf("%v", w.Entries())
 	}
 }

@@ -6,6 +6,7 @@ import (
 
 	"quaestor/api"
 	"quaestor/keccak"
+	"quaestor/sample"
 	"quaestor/store"
 	"quaestor/vm"
 	"quaestor/word"
@@ -225,7 +226,7 @@ func TestCollisions(t *testing.T) {
 					inner = append(inner, e)
 				}
 			}
-			if !x.may && (len(inner) != 1 || !sameEvent(inner[0], api.Event{Depth: 1, Self: made, Fault: api.ErrVMCollide})) {
+			if !x.may && (len(inner) != 1 || !sample.SameEvent(inner[0], api.Event{Depth: 1, Self: made, Fault: api.ErrVMCollide})) {
 				t.Errorf("%v: %v", x.there, inner)
 			}
 			if !x.may && r.Gas > enough/50 {
@@ -236,7 +237,7 @@ func TestCollisions(t *testing.T) {
 	made := vm.Made(caller, 0)
 	w := worldOf("", entry(made, 0, "STOP"))
 	r, l := vm.Call(w, block(), caller, api.Message{From: caller, Create: true, Gas: 500})
-	if !sameResult(r, api.Result{Status: api.DoneFault, Fault: api.ErrVMCollide}) || len(l) != 1 || !sameEvent(l[0], api.Event{Self: made, Fault: api.ErrVMCollide}) || w.Nonce(caller) != 1 {
+	if !sameResult(r, api.Result{Status: api.DoneFault, Fault: api.ErrVMCollide}) || len(l) != 1 || !sample.SameEvent(l[0], api.Event{Self: made, Fault: api.ErrVMCollide}) || w.Nonce(caller) != 1 {
 		t.Errorf("%v, %v", r, l)
 	}
 }
@@ -276,7 +277,7 @@ func TestLastNonce(t *testing.T) {
 	w.SetNonce(caller, most)
 	before := w.Entries()
 	r, l := vm.Call(w, block(), caller, api.Message{From: caller, Create: true, Gas: 500, Data: assemble("STOP")})
-	if !sameResult(r, api.Result{Status: api.DoneFault, Fault: api.ErrVMFunds, Gas: 500}) || len(l) > 0 || !sameEntries(before, w.Entries()) {
+	if !sameResult(r, api.Result{Status: api.DoneFault, Fault: api.ErrVMFunds, Gas: 500}) || len(l) > 0 || !sample.SameEntries(before, w.Entries()) {
 		t.Errorf("%v, %v", r, l)
 	}
 }

@@ -272,31 +272,8 @@ func drawnMessage(d *sample.Dice) api.Message {
 	return m
 }
 
-// sameWorlds compares all that can be asked of Worlds; what was touched, and who is dead, is found on Copies.
-func sameWorlds(v, w *store.World) bool {
-	if !sameEntries(v.Entries(), w.Entries()) || !sameLogs(v.Logs(), w.Logs()) || v.Refunds() != w.Refunds() {
-		return false
-	}
-	x, y := v.Copy(), w.Copy()
-	who := actors()
-	for _, e := range x.Entries() {
-		who = append(who, e.Addr)
-	}
-	for _, a := range who {
-		if x.Touch(a) != y.Touch(a) {
-			return false
-		}
-		for key := range uint64(5) {
-			k := word.From(key)
-			if x.TouchSlot(a, k) != y.TouchSlot(a, k) || x.Original(a, k) != y.Original(a, k) {
-				return false
-			}
-		}
-	}
-	x.End()
-	y.End()
-	return sameEntries(x.Entries(), y.Entries())
-}
+// sameWorlds says whether Worlds are the same, all that was touched included.
+func sameWorlds(v, w *store.World) bool { return sample.SameWorlds(v, w, actors()) }
 
 // tally counts what drawn code has done, so that none of it is missing.
 type tally struct {
@@ -362,7 +339,7 @@ func unchanged(before, after *store.World, m api.Message) bool {
 	if m.Create {
 		c.SetNonce(m.From, before.Nonce(m.From))
 	}
-	return sameEntries(before.Entries(), c.Entries())
+	return sample.SameEntries(before.Entries(), c.Entries())
 }
 
 // TestDrawnCalls: drawn code by the chapter's words: results, events, and all of the World.
@@ -378,9 +355,9 @@ func TestDrawnCalls(t *testing.T) {
 		ref := newModel(w.Copy(), block(), at(0x0b), m.Price)
 		want := ref.message(m)
 		r, l := vm.Call(w, block(), at(0x0b), m)
-		if !sameResult(r, want) || !slices.EqualFunc(l, ref.events, sameEvent) || !sameWorlds(w, ref.w) {
+		if !sameResult(r, want) || !sample.SameEvents(l, ref.events) || !sameWorlds(w, ref.w) {
 			for j := range min(len(l), len(ref.events)) {
-				if !sameEvent(l[j], ref.events[j]) {
+				if !sample.SameEvent(l[j], ref.events[j]) {
 					t.Errorf("event %d: %v, want %v", j, l[j], ref.events[j])
 					break
 				}
@@ -408,7 +385,7 @@ func TestDrawnSends(t *testing.T) {
 		ref := newModel(w.Copy(), block(), m.From, m.Price)
 		want, wantLogs, wantUsed := ref.transaction(m)
 		r, logs, used, errno := vm.Send(w, block(), m)
-		if errno != api.OK || !sameResult(r, want) || !sameLogs(logs, wantLogs) || used != wantUsed || !sameWorlds(w, ref.w) {
+		if errno != api.OK || !sameResult(r, want) || !sample.SameLogs(logs, wantLogs) || used != wantUsed || !sameWorlds(w, ref.w) {
 			t.Fatalf("run %d, %v of code %x: %v, %d, %v, want %v, %d", i, m, w.Code(m.To), r, used, errno, want, wantUsed)
 		}
 		if sumOf(w).Cmp(sumOf(before)) > 0 {
@@ -428,7 +405,7 @@ func TestDrawnGas(t *testing.T) {
 			ref := newModel(w.Copy(), block(), at(0x0b), m.Price)
 			want := ref.message(m)
 			r, l := vm.Call(v, block(), at(0x0b), m)
-			if !sameResult(r, want) || !slices.EqualFunc(l, ref.events, sameEvent) || !sameWorlds(v, ref.w) {
+			if !sameResult(r, want) || !sample.SameEvents(l, ref.events) || !sameWorlds(v, ref.w) {
 				t.Fatalf("run %d, %d gas: %v, want %v", i, m.Gas, r, want)
 			}
 		}
@@ -448,7 +425,7 @@ func TestAnyBytes(t *testing.T) {
 		ref := newModel(w.Copy(), api.Block{Number: d.Number()}, word.Addr(d.Word()), d.Word())
 		want := ref.message(m)
 		r, l := vm.Call(w, ref.b, ref.origin, api.Message{From: m.From, To: m.To, Create: m.Create, Value: m.Value, Data: m.Data, Gas: m.Gas, Price: ref.price})
-		if !sameResult(r, want) || !slices.EqualFunc(l, ref.events, sameEvent) || !sameWorlds(w, ref.w) {
+		if !sameResult(r, want) || !sample.SameEvents(l, ref.events) || !sameWorlds(w, ref.w) {
 			t.Fatalf("run %d, code %x: %v, want %v", i, code, r, want)
 		}
 	}

@@ -48,7 +48,7 @@ func TestEvents(t *testing.T) {
 			want.Op = code[0]
 		}
 		l := eventsOf(text, want.Op)
-		if len(l) != 1 || !sameEvent(l[0], want) {
+		if len(l) != 1 || !sample.SameEvent(l[0], want) {
 			t.Errorf("%s: %v, want %v", text, l, want)
 		}
 	}
@@ -72,7 +72,7 @@ func TestEventsInTurn(t *testing.T) {
 		t.Fatalf("%v, want %v", l, want)
 	}
 	for i := range want {
-		if !sameEvent(l[i], want[i]) {
+		if !sample.SameEvent(l[i], want[i]) {
 			t.Errorf("event %d: %v, want %v", i, l[i], want[i])
 		}
 	}
@@ -99,7 +99,7 @@ func TestFaultEvents(t *testing.T) {
 			}
 		}
 		n := len(got) - 1
-		if n < 0 || x.done != (n == 1) || !sameEvent(got[n], api.Event{Op: op, Self: me, Fault: x.fault}) || x.done && !sameEvent(got[0], api.Event{Op: op, Self: me}) {
+		if n < 0 || x.done != (n == 1) || !sample.SameEvent(got[n], api.Event{Op: op, Self: me, Fault: x.fault}) || x.done && !sample.SameEvent(got[0], api.Event{Op: op, Self: me}) {
 			t.Errorf("%s with %d gas: %v", x.text, x.gas, l)
 		}
 	}
@@ -121,7 +121,7 @@ func TestNoEvents(t *testing.T) {
 		_, l := vm.Call(worldOf("JUMPDEST"), block(), caller, x.m)
 		same := len(l) == len(x.want)
 		for i := range min(len(l), len(x.want)) {
-			same = same && sameEvent(l[i], x.want[i])
+			same = same && sample.SameEvent(l[i], x.want[i])
 		}
 		if !same {
 			t.Errorf("%v: %v, want %v", x.m, l, x.want)

@@ -5,6 +5,7 @@ import (
 	"testing"
 
 	"quaestor/api"
+	"quaestor/sample"
 	"quaestor/store"
 	"quaestor/vm"
 	"quaestor/word"
@@ -183,7 +184,7 @@ func TestEnd(t *testing.T) {
 		if r.Status != api.DoneOK || len(r.Out) > 0 {
 			t.Errorf("%s: %v", text, r)
 		}
-		if e := l[len(l)-1]; !sameEvent(e, api.Event{Self: me}) {
+		if e := l[len(l)-1]; !sample.SameEvent(e, api.Event{Self: me}) {
 			t.Errorf("%s: the last event is %v", text, e)
 		}
 	}
@@ -215,7 +216,7 @@ func TestJumps(t *testing.T) {
 				t.Errorf("%s to %v: %v", jump, p, r)
 			case !may && r.Fault != api.ErrVMJump:
 				t.Errorf("%s to %v: %v", jump, p, r)
-			case !may && (!sameEvent(l[n-2], api.Event{Op: code[base-1], Self: me}) || !sameEvent(l[n-1], api.Event{Op: code[base-1], Self: me, Fault: api.ErrVMJump})):
+			case !may && (!sample.SameEvent(l[n-2], api.Event{Op: code[base-1], Self: me}) || !sample.SameEvent(l[n-1], api.Event{Op: code[base-1], Self: me, Fault: api.ErrVMJump})):
 				t.Errorf("%s to %v: the events are %v", jump, p, l)
 			}
 		}

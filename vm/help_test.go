@@ -2,11 +2,7 @@ package vm_test
 
 import (
 	"bytes"
-	"encoding/hex"
-	"math/big"
-	"slices"
 	"strconv"
-	"strings"
 	"testing"
 
 	"quaestor/api"
@@ -34,37 +30,14 @@ func init() {
 	}
 }
 
-// assemble is the code of a text: names of operations, numbers, which are pushed, and bytes behind a # that stand as they are.
-func assemble(text string) []byte {
-	var code []byte
-	for s := range strings.FieldsSeq(text) {
-		if op, is := opcodes[s]; is {
-			code = append(code, op)
-			continue
-		}
-		if raw, is := strings.CutPrefix(s, "#"); is {
-			b, err := hex.DecodeString(raw)
-			if err != nil {
-				panic(s)
-			}
-			code = append(code, b...)
-			continue
-		}
-		n, is := new(big.Int).SetString(s, 0)
-		if !is {
-			panic(s)
-		}
-		b := n.FillBytes(make([]byte, max(1, (n.BitLen()+7)/8)))
-		code = append(append(code, 0x5f+byte(len(b))), b...)
-	}
-	return code
-}
+// assemble is the code of a text.
+var assemble = sample.Assembler()
 
 // at is an address that is a small number.
 func at(n uint64) api.Address { return word.Addr(word.From(n)) }
 
 // digits are a number as assemble reads it.
-func digits(a api.Word) string { return "0x" + hex.EncodeToString(word.Bytes(a)) }
+func digits(a api.Word) string { return sample.Digits(word.Bytes(a)) }
 
 // number is one as assemble reads it.
 func number(n uint64) string { return strconv.FormatUint(n, 10) }
@@ -142,30 +115,13 @@ func faultOf(t *testing.T, text string, gas uint64, more ...api.Entry) api.Errno
 	if r.Gas != 0 || len(r.Out) > 0 || r.Made != (api.Address{}) {
 		t.Errorf("%s: a fault with %v", text, r)
 	}
-	if !sameEntries(w.Entries(), worldOf(text, more...).Entries()) || w.Refunds() != 0 || len(w.Logs()) > 0 {
+	if !sample.SameEntries(w.Entries(), worldOf(text, more...).Entries()) || w.Refunds() != 0 || len(w.Logs()) > 0 {
 		t.Errorf("%s: the World is not as before: %v", text, w.Entries())
 	}
-	if e := l[len(l)-1]; e.Fault != r.Fault || !sameEvent(e, api.Event{Op: e.Op, Self: me, Fault: r.Fault}) {
+	if e := l[len(l)-1]; e.Fault != r.Fault || !sample.SameEvent(e, api.Event{Op: e.Op, Self: me, Fault: r.Fault}) {
 		t.Errorf("%s: the last event is %v", text, e)
 	}
 	return r.Fault
-}
-
-func sameEntries(x, y []api.Entry) bool {
-	return slices.EqualFunc(x, y, func(a, b api.Entry) bool {
-		v, w := a.Account, b.Account
-		return a.Addr == b.Addr && v.Nonce == w.Nonce && v.Balance == w.Balance && bytes.Equal(v.Code, w.Code) && slices.Equal(v.Slots, w.Slots)
-	})
-}
-
-func sameEvent(a, b api.Event) bool {
-	return a.Op == b.Op && a.Depth == b.Depth && a.Self == b.Self && a.Arg == b.Arg && a.Value == b.Value && bytes.Equal(a.Data, b.Data) && a.Fault == b.Fault
-}
-
-func sameLogs(x, y []api.Log) bool {
-	return slices.EqualFunc(x, y, func(a, b api.Log) bool {
-		return a.Addr == b.Addr && slices.Equal(a.Topics, b.Topics) && bytes.Equal(a.Data, b.Data)
-	})
 }
 
 func sameResult(a, b api.Result) bool {

@@ -245,7 +245,7 @@ func TestLogs(t *testing.T) {
 		{Addr: me, Data: []byte{0xab, 0xcd, 0xef}}, {Addr: me, Topics: []api.Word{{4}, {3}, {2}, {1}}, Data: []byte{0xcd, 0xef}}, {Addr: me, Topics: []api.Word{{5}}},
 		{Addr: me, Topics: []api.Word{{7}, {6}}, Data: []byte{0xef}}, {Addr: me, Topics: []api.Word{{10}, {9}, {8}}, Data: append(word.Bytes(word.From(0xabcdef)), 0)},
 	}
-	if !sameLogs(w.Logs(), want) {
+	if !sample.SameLogs(w.Logs(), want) {
 		t.Errorf("%v, want %v", w.Logs(), want)
 	}
 }

@@ -64,8 +64,8 @@ func TestNativeFaults(t *testing.T) {
 			want := api.Event{Depth: 1, Self: who, Fault: api.ErrVMGas}
 			is := false
 			for _, e := range l {
-				is = is || sameEvent(e, want)
-				if e.Depth > 0 && !sameEvent(e, want) {
+				is = is || sample.SameEvent(e, want)
+				if e.Depth > 0 && !sample.SameEvent(e, want) {
 					t.Errorf("%s of %x: %v", kind, to, e)
 				}
 			}
@@ -152,7 +152,7 @@ func TestDeskAnswers(t *testing.T) {
 	}
 	before := w.Entries()
 	r, l := vm.Call(w, block(), caller, asking("withdrawTo(address,uint256)", word.Wide(me), api.Word{5})) // it has no balance to pay by
-	if !sameResult(r, api.Result{Status: api.DoneRevert, Gas: 1000}) || len(l) > 0 || !sameEntries(before, w.Entries()) {
+	if !sameResult(r, api.Result{Status: api.DoneRevert, Gas: 1000}) || len(l) > 0 || !sample.SameEntries(before, w.Entries()) {
 		t.Errorf("%v, %v, %v", r, l, w.Entries())
 	}
 	m := asking("nothing()")

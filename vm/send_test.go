@@ -221,7 +221,7 @@ func TestSendErrors(t *testing.T) {
 		if errno != x.want {
 			t.Errorf("%s: %v, want %v", name, errno, x.want)
 		}
-		if errno != api.OK && (!sameResult(r, api.Result{}) || len(logs) > 0 || used != 0 || !sameEntries(w.Entries(), before) || !w.Touch(at(0x99))) {
+		if errno != api.OK && (!sameResult(r, api.Result{}) || len(logs) > 0 || used != 0 || !sample.SameEntries(w.Entries(), before) || !w.Touch(at(0x99))) {
 			t.Errorf("%s: %v, %v, %d, %v", name, r, logs, used, w.Entries())
 		}
 	}
@@ -275,7 +275,7 @@ func TestSendLogs(t *testing.T) {
 	m.Data = data[:20]
 	_, logs, _, _ := vm.Send(w, block(), m)
 	want := []api.Log{{Addr: me, Topics: []api.Word{{7}}, Data: []byte{1}}, {Addr: me, Topics: []api.Word{{9}, {8}}, Data: []byte{2}}}
-	if !sameLogs(logs, want) || !bytes.Equal(data, sample.Noise(30, 1)) {
+	if !sample.SameLogs(logs, want) || !bytes.Equal(data, sample.Noise(30, 1)) {
 		t.Errorf("%v, want %v", logs, want)
 	}
 }

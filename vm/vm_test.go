@@ -132,7 +132,7 @@ func TestMostGas(t *testing.T) {
 			if !sameResult(r, x.want) {
 				t.Errorf("%d gas, creation %v: %v, want %v", x.gas, create, r, x.want)
 			}
-			if x.want.Status != api.DoneOK && (len(l) > 0 || !sameEntries(w.Entries(), worldOf("1 0 SSTORE").Entries())) {
+			if x.want.Status != api.DoneOK && (len(l) > 0 || !sample.SameEntries(w.Entries(), worldOf("1 0 SSTORE").Entries())) {
 				t.Errorf("%d gas, creation %v: %v, %v", x.gas, create, l, w.Entries())
 			}
 		}
