@@ -21,6 +21,12 @@ func (s Set) Add(l ...api.Place) {
 	}
 }
 
+// Has says whether a place is one of a set.
+func (s Set) Has(p api.Place) bool {
+	_, is := s[p]
+	return is
+}
+
 // Sorted are the places of a set, rising.
 func (s Set) Sorted() []api.Place { return slices.SortedFunc(maps.Keys(s), compare) }
 

@@ -94,6 +94,27 @@ func TestNone(t *testing.T) {
 	}
 }
 
+// TestHas asks for each of many places, of which every other one was added.
+func TestHas(t *testing.T) {
+	s := places.Set{}
+	for i, p := range rising() {
+		if s.Has(p) {
+			t.Errorf("%v is there already", p)
+		}
+		if i%2 == 0 {
+			s.Add(p)
+		}
+	}
+	for i, p := range rising() {
+		if s.Has(p) != (i%2 == 0) {
+			t.Errorf("%v: %v", p, s.Has(p))
+		}
+	}
+	if n := len(s.Sorted()); n != (len(rising())+1)/2 {
+		t.Errorf("%d places after asking", n)
+	}
+}
+
 // TestSortedFresh: what is answered shares nothing with the set or another answer, and what was given is not changed.
 func TestSortedFresh(t *testing.T) {
 	given := rising()
